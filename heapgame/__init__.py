@@ -1,0 +1,1 @@
+"""Managed heaps, tagged memory, collectors, and fragmentation as a game."""
