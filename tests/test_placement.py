@@ -18,20 +18,6 @@ SIZE = 6
 LAYOUTS = samples.block_lists(SIZE)
 
 
-def placed_by_the_words(size, layout, length, policy, cursor):
-    """The start that a policy takes, found as promise 8 tells it."""
-    fitting = samples.starts_that_fit(size, layout, length)
-    if not fitting:
-        return None
-    if policy == "first":
-        return min(fitting)
-    if policy == "next":
-        return min([start for start in fitting if start >= cursor] or fitting)
-    wide = [(cells, start) for start, cells in samples.free_rows(size, layout) if cells >= length]
-    target = min(wide)[0] if policy == "best" else max(wide)[0]
-    return min(start for cells, start in wide if cells == target)
-
-
 class InterfaceTest(unittest.TestCase):
     def test_names_and_arguments(self):
         for name, arguments in INTERFACE.items():
@@ -79,7 +65,7 @@ class PolicyTest(unittest.TestCase):
                     for cursor in range(SIZE + 1):
                         self.assertEqual(
                             place_block(SIZE, layout, length, policy, cursor),
-                            placed_by_the_words(SIZE, layout, length, policy, cursor),
+                            samples.start_by_policy(SIZE, layout, length, policy, cursor),
                             (layout, length, policy, cursor))
 
     def test_several_gaps_of_equal_length(self):
