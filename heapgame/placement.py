@@ -23,13 +23,14 @@ def place_block(size, layout, length, policy, cursor=0):
     wide = [(start, cells) for start, cells in gaps(size, layout) if cells >= length]
     if not wide:
         return None
-    return _chosen_gap(wide, policy)[0]
+    return chosen_area(wide, policy)[0]
 
 
-def _chosen_gap(wide, policy):
-    # Of several gaps of the same length, min and max take the first one.
+def chosen_area(areas, policy):
+    """Return the area, a tuple (start, length), that "first", "best" or "worst" takes of a list of at least one."""
+    # Of several areas of the same length, min and max take the first one.
     if policy == "best":
-        return min(wide, key=lambda gap: gap[1])
+        return min(areas, key=lambda area: area[1])
     if policy == "worst":
-        return max(wide, key=lambda gap: gap[1])
-    return wide[0]
+        return max(areas, key=lambda area: area[1])
+    return areas[0]
