@@ -37,6 +37,16 @@ def slide_left(size, layout):
     return slid
 
 
+def first_slide(layout):
+    """Return the index of the first block before which a cell is free, and the end of the block before it, or None."""
+    end = 0
+    for index, (start, length) in enumerate(layout):
+        if start > end:
+            return index, end
+        end = start + length
+    return None
+
+
 def cheapest_room(size, layout, pinned, length):
     """Return (starts, start, cost) of the cheapest room for a new block of this length, or None."""
     behind = _room_behind_all(size, length)
@@ -45,7 +55,9 @@ def cheapest_room(size, layout, pinned, length):
     if (0, False) not in behind:
         return None
     price, starts = behind[(0, False)]
-    return starts, places(size, relocated(layout, starts), length)[0], price
+    found = places(size, relocated(layout, starts), length)
+    # Only a block without cells has room in a heap without a gap.
+    return starts, found[0] if found else size, price
 
 
 def _can_move(blocks, index, goal):

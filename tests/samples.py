@@ -70,3 +70,21 @@ def moved_blocks(layout, starts):
 def cells_moved(layout, starts):
     """The number of cells of the blocks whose start changes."""
     return len([cell for block, start in zip(layout, starts) if block[0] != start for cell in cells_of([block])])
+
+
+def relocations_in_order(size, layout):
+    """The relocations that keep the order, with their costs and the blocks then."""
+    return [(cells_moved(layout, starts), starts, moved_blocks(layout, starts))
+            for starts in all_relocations(size, layout) if starts == sorted(starts)]
+
+
+def room_by_trying(size, layout, in_order, pinned, length):
+    """The cheapest room; all relocations that keep the order and all starts of the new block are tried."""
+    found = []
+    for price, starts, blocks in in_order:
+        if all(starts[index] == layout[index][0] for index in pinned):
+            found += [(price, starts, start) for start in starts_that_fit(size, blocks, length)]
+    if not found:
+        return None
+    price, starts, start = min(found)
+    return starts, start, price

@@ -9,7 +9,7 @@ import samples
 
 from heapgame import moves
 from heapgame.maps import relocate_words, relocation_map
-from heapgame.moves import cheapest_room, meets, schedule_moves, slide_left
+from heapgame.moves import cheapest_room, first_slide, meets, schedule_moves, slide_left
 
 INTERFACE = {
     "meets": ["block", "other"],
@@ -52,24 +52,6 @@ def has_ring(layout, starts):
         for index in moved:
             reached[index] |= {last for other in reached[index] for last in reached[other]}
     return any(index in reached[index] for index in moved)
-
-
-def relocations_in_order(size, layout):
-    """The relocations that keep the order, with their costs and the blocks then."""
-    return [(samples.cells_moved(layout, starts), starts, samples.moved_blocks(layout, starts))
-            for starts in samples.all_relocations(size, layout) if starts == sorted(starts)]
-
-
-def room_by_trying(size, layout, in_order, pinned, length):
-    """The cheapest room; all relocations that keep the order and all starts of the new block are tried."""
-    found = []
-    for price, starts, blocks in in_order:
-        if all(starts[index] == layout[index][0] for index in pinned):
-            found += [(price, starts, start) for start in samples.starts_that_fit(size, blocks, length)]
-    if not found:
-        return None
-    price, starts, start = min(found)
-    return starts, start, price
 
 
 def subsets(many):
@@ -204,6 +186,23 @@ class SlideLeftTest(unittest.TestCase):
             self.assertEqual(slide_left(6, slid), slid)
 
 
+class FirstSlideTest(unittest.TestCase):
+    """What promises 47 and 52 slide: the first block before which a cell is free, to the end of the one before it."""
+
+    def test_some_layouts(self):
+        self.assertIsNone(first_slide([]))
+        self.assertIsNone(first_slide([(0, 2), (2, 1)]))
+        self.assertEqual(first_slide([(3, 1)]), (0, 0))
+        self.assertEqual(first_slide([(0, 2), (2, 1), (5, 2), (8, 1)]), (2, 3))
+
+    def test_all_small_layouts(self):
+        for layout in samples.block_lists(6):
+            free = set(range(6)) - set(samples.cells_of(layout))
+            before = [index for index, (start, _) in enumerate(layout) if start - 1 in free]
+            expected = (before[0], sum(length for _, length in layout[:before[0]])) if before else None
+            self.assertEqual(first_slide(layout), expected)
+
+
 class CheapestRoomTest(unittest.TestCase):
     """Promises 20 and 21."""
 
@@ -249,12 +248,16 @@ class CheapestRoomTest(unittest.TestCase):
         self.assertIsNone(cheapest_room(2, [(0, 1), (1, 1)], [], 1))
         self.assertIsNone(cheapest_room(4, [], [], 5))
 
+    def test_a_block_without_cells_raises_nothing(self):
+        self.assertEqual(cheapest_room(3, [(0, 2), (2, 1)], [], 0)[0], [0, 2])
+        self.assertEqual(cheapest_room(3, [(0, 2)], [], 0)[0], [0])
+
     def check_by_trying(self, size, layout):
-        in_order = relocations_in_order(size, layout)
+        in_order = samples.relocations_in_order(size, layout)
         for pinned in subsets(len(layout)):
             for length in range(1, size + 2):
                 self.assertEqual(cheapest_room(size, layout, pinned, length),
-                                 room_by_trying(size, layout, in_order, pinned, length),
+                                 samples.room_by_trying(size, layout, in_order, pinned, length),
                                  (size, layout, pinned, length))
 
     def test_all_small_layouts_with_all_pins_and_lengths(self):
